@@ -1,0 +1,1 @@
+"""Hats that are guessed, and boxes that are opened."""
