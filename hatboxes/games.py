@@ -1,5 +1,8 @@
 """The calls of the document: each is a function that answers a list of whole numbers."""
 
+# What stands in a table of passing where a person doesn't guess.
+PASSED = 2
+
 
 def misses(n, q, length, g, table):
     """In how many rows of hats nobody guesses right, then the hats of the first such row."""
@@ -21,18 +24,47 @@ def least(n, q, length, g, table):
     return [min(right_in_each_row(n, q, g, table))]
 
 
+def line(n, q, hats):
+    """0, then what is said by those who stand in a line, person 0 first."""
+    if n < 0 or n > 4096 or q < 1 or q > 200:
+        return [-2]
+    if not all_below(q, hats):
+        return [-3]
+    return [0] + said_in_line(q, hats)
+
+
+def passing(n, table):
+    """How many rows of hats are won, where who doesn't want to guess may pass."""
+    if n < 1 or n > 8:
+        return [-2]
+    if not all_below(PASSED + 1, table):
+        return [-3]
+    sights = [all_but(v, n) for v in range(n)]
+    won = 0
+    for row in range(power(2, n)):
+        hats = hats_of_row(row, n, 2)
+        if is_won(hats, guesses_in_row(hats, sights, 2, table)):
+            won = won + 1
+    return [won]
+
+
 def table_refusal(n, q, length, g, table):
     """The refusal of misses and least, or 0 if there is none."""
     if n < 1 or n > 6 or q < 1 or q > 4 or length < 0 or length > 8192:
         return -2
     if not sight_is_as_told(n, g):
         return -3
-    if length != length_of_all_parts(n, q, g):
+    if length != length_of_all_parts(n, q, g) or not all_below(q, table):
         return -3
-    for guess in table:
-        if guess >= q:
-            return -3
     return 0
+
+
+def all_below(bound, numbers):
+    """Whether each of the numbers is below the bound."""
+    for number in numbers:
+        if number >= bound:
+            return False
+    return True
 
 
 def sees(g, v, u):
@@ -54,6 +86,11 @@ def sight_is_as_told(n, g):
 def seen_by(v, n, g):
     """The persons whom v sees, from the lowest on."""
     return [u for u in range(n) if sees(g, v, u)]
+
+
+def all_but(v, n):
+    """The persons other than v, from the lowest on."""
+    return [u for u in range(n) if u != v]
 
 
 def power(base, exponent):
@@ -92,18 +129,50 @@ def place_of_guess(hats, seen, q):
     return place
 
 
-def right_guesses(hats, sights, q, table):
-    """How many guess right, where sights has the persons seen by each."""
-    right = 0
+def guesses_in_row(hats, sights, q, table):
+    """What each guesses, where sights has the persons seen by each."""
+    guesses = []
     start = 0
-    for v, seen in enumerate(sights):
-        if table[start + place_of_guess(hats, seen, q)] == hats[v]:
-            right = right + 1
+    for seen in sights:
+        guesses.append(table[start + place_of_guess(hats, seen, q)])
         start = start + power(q, len(seen))
-    return right
+    return guesses
+
+
+def right_guesses(hats, guesses):
+    """How many guess their own hat."""
+    return len([v for v, guess in enumerate(guesses) if guess == hats[v]])
 
 
 def right_in_each_row(n, q, g, table):
     """How many guess right in each row of hats, the rows in their order."""
     sights = [seen_by(v, n, g) for v in range(n)]
-    return [right_guesses(hats_of_row(row, n, q), sights, q, table) for row in range(power(q, n))]
+    counts = []
+    for row in range(power(q, n)):
+        hats = hats_of_row(row, n, q)
+        counts.append(right_guesses(hats, guesses_in_row(hats, sights, q, table)))
+    return counts
+
+
+def is_won(hats, guesses):
+    """Whether one guesses right at least, and none wrong."""
+    right = right_guesses(hats, guesses)
+    return right > 0 and right + guesses.count(PASSED) == len(guesses)
+
+
+def said_in_line(q, hats):
+    """What each says who hears all that was said and sees all hats in front of them."""
+    if len(hats) == 0:
+        return []
+    seen = sum(hats) - hats[0]
+    first = seen % q
+    said = [first]
+    # What is left of the first number, less all that was said since; it may fall below 0.
+    left = first
+    for hat in hats[1:]:
+        # Who stands one further on doesn't see their own hat, which the one behind them saw.
+        seen = seen - hat
+        number = (left - seen) % q
+        said.append(number)
+        left = left - number
+    return said
