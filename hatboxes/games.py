@@ -1,6 +1,6 @@
 """The calls of the document: each is a function that answers a list of whole numbers."""
 
-# What stands in a table of passing where a person doesn't guess.
+# What stands in the place of a guess where a person passes.
 PASSED = 2
 
 
@@ -48,6 +48,25 @@ def passing(n, table):
     return [won]
 
 
+def code(r, hats):
+    """0, then what each guesses who goes by the numbers of all others whose hat is 1."""
+    if r < 1 or r > 8:
+        return [-2]
+    if not all_below(2, hats):
+        return [-3]
+    return [0] + guesses_by_numbers(hats)
+
+
+def boxes(n, k, p):
+    """1 if all find their numbers who look into k boxes at the most, else 0."""
+    refused = order_refusal(n, k, p)
+    if refused < 0:
+        return [refused]
+    if len(rounds_longer_than(k, p)) > 0:
+        return [0]
+    return [1]
+
+
 def table_refusal(n, q, length, g, table):
     """The refusal of misses and least, or 0 if there is none."""
     if n < 1 or n > 6 or q < 1 or q > 4 or length < 0 or length > 8192:
@@ -55,6 +74,15 @@ def table_refusal(n, q, length, g, table):
     if not sight_is_as_told(n, g):
         return -3
     if length != length_of_all_parts(n, q, g) or not all_below(q, table):
+        return -3
+    return 0
+
+
+def order_refusal(n, k, p):
+    """The refusal of a call with boxes for its numbers or its order, or 0 if there is none."""
+    if n < 1 or n > 1024 or k < 0 or k > n:
+        return -2
+    if sorted(p) != list(range(n)):
         return -3
     return 0
 
@@ -176,3 +204,51 @@ def said_in_line(q, hats):
         said.append(number)
         left = left - number
     return said
+
+
+def guesses_by_numbers(hats):
+    """What each guesses, where person i's number is i + 1."""
+    together = 0
+    for person, hat in enumerate(hats):
+        together = together ^ ((person + 1) * hat)
+    guesses = []
+    for person, hat in enumerate(hats):
+        number = person + 1
+        # What is taken a second time falls out, so the numbers of the others are left.
+        guesses.append(guess_by_number(number, together ^ (number * hat)))
+    return guesses
+
+
+def guess_by_number(number, others):
+    """What somebody with this number guesses, where others is what the others' numbers make."""
+    if others == 0:
+        return 1
+    if others == number:
+        return 0
+    return PASSED
+
+
+def round_from(first, p):
+    """The boxes that are looked into one after another, from the first to the one with its number."""
+    found = [first]
+    while p[found[-1]] != first:
+        found.append(p[found[-1]])
+    return found
+
+
+def rounds_of(p):
+    """All rounds that lead from box to box, each from its lowest box on."""
+    rounds = []
+    reached = [False] * len(p)
+    for first in range(len(p)):
+        if not reached[first]:
+            found = round_from(first, p)
+            for box in found:
+                reached[box] = True
+            rounds.append(found)
+    return rounds
+
+
+def rounds_longer_than(k, p):
+    """The rounds with more than k boxes: who looks for a number in one of them doesn't find it."""
+    return [found for found in rounds_of(p) if len(found) > k]
