@@ -67,6 +67,20 @@ def boxes(n, k, p):
     return [1]
 
 
+def swap(n, k, p):
+    """0 if all find their numbers, else 1 and the first two boxes whose exchange lets all do so."""
+    refused = order_refusal(n, k, p)
+    if refused < 0:
+        return [refused]
+    too_long = rounds_longer_than(k, p)
+    if len(too_long) == 0:
+        return [0]
+    # An exchange cuts one round in two or joins two into one, so it can shorten one round alone.
+    if len(too_long) > 1 or len(too_long[0]) > 2 * k:
+        return [-5]
+    return [1] + first_cut(k, too_long[0])
+
+
 def table_refusal(n, q, length, g, table):
     """The refusal of misses and least, or 0 if there is none."""
     if n < 1 or n > 6 or q < 1 or q > 4 or length < 0 or length > 8192:
@@ -79,7 +93,7 @@ def table_refusal(n, q, length, g, table):
 
 
 def order_refusal(n, k, p):
-    """The refusal of a call with boxes for its numbers or its order, or 0 if there is none."""
+    """The refusal of boxes and swap for what they are given, or 0 if there is none."""
     if n < 1 or n > 1024 or k < 0 or k > n:
         return -2
     if sorted(p) != list(range(n)):
@@ -252,3 +266,10 @@ def rounds_of(p):
 def rounds_longer_than(k, p):
     """The rounds with more than k boxes: who looks for a number in one of them doesn't find it."""
     return [found for found in rounds_of(p) if len(found) > k]
+
+
+def first_cut(k, found):
+    """The first two boxes whose exchange cuts this round into two of k boxes at the most."""
+    # The round's lowest box stands first in it, and any other may be exchanged with it. The one
+    # that is d boxes further on cuts d boxes off; so d is k at the most, and what is left is too.
+    return [found[0], min(found[len(found) - k:k + 1])]
